@@ -1,0 +1,1 @@
+"""How long a bounded program may run."""
