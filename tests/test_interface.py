@@ -55,7 +55,7 @@ class Form(unittest.TestCase):
         self.assertEqual(answers([4, MOST, MOST, MOST] * 400), [3, -1, 0, 0] * 400)
 
     def test_a_call_of_another_number_is_turned_away(self):
-        for number in (13, MOST):
+        for number in (len(programs.ARGUMENT_COUNTS), 13, MOST):
             with self.assertRaises(UnknownCall):
                 answers([number, 0, 0, 0])
 
