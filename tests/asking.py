@@ -34,6 +34,30 @@ def cost(b, new_cost):
     return [6, b, new_cost]
 
 
+def time(a, least=0):
+    return [7, a, least]
+
+
+def often(a, b, least=0):
+    return [8, a, b, least]
+
+
+def stack(a):
+    return [9, a]
+
+
+def slack(a, b):
+    return [10, a, b]
+
+
+def nth(a, i):
+    return [11, a, i]
+
+
+def is_run(a, row):
+    return [12, a, len(row), *row]
+
+
 def flat(calls):
     return [number for one in calls for number in one]
 
@@ -51,6 +75,18 @@ def ask(*calls):
 
 def last(*calls):
     return ask(*calls)[-1]
+
+
+def asked(made, *calls):
+    """The numbers answered to calls behind those that make programs, none of which may be refused."""
+    told = ask(*made, *calls)
+    assert min(told[:len(made)]) >= 0, told
+    return told[len(made):]
+
+
+def told_run(made, a, length):
+    """The blocks at the first so many places of the run that's told of a, and what is answered just beyond."""
+    return asked(made, *[nth(a, i) for i in range(length + 1)])
 
 
 # Program 3 of these has one run, of just 2^40 blocks; 0 is a block, 1 and 2 its steps.

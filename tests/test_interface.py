@@ -5,12 +5,14 @@ import inspect
 import io
 import unittest
 
-from asking import LONGEST, MOST, alt, block, call, cost, flat, init, loop, seq
+from asking import LONGEST, MOST, alt, block, call, cost, flat, init, is_run, loop, nth, often, seq, slack, stack, time
 from longestrundesk import programs
 from longestrundesk.programs import UnknownCall, answers
 
 MIXED = flat([block(5), block(65536), seq(0, 0), alt(0, 9), init(), block(7), loop(0, 0, 3), call(1, 65535),
-              cost(0, 2), cost(1, 2), seq(2, MOST)])
+              cost(0, 2), cost(1, 2), seq(2, MOST), block(9), alt(2, 3), time(4, 0), time(4, 1), often(4, 0, 0),
+              often(4, 0, MOST), stack(4), slack(4, 0), slack(1, 3), nth(4, 0), nth(4, 1), is_run(4, [0, 0]),
+              is_run(4, []), is_run(4, [0] * 25), is_run(4, [3]), time(9, 9), cost(0, 3), time(4), slack(4, 3)])
 
 
 class ReadOnly(list):
@@ -44,6 +46,17 @@ class Form(unittest.TestCase):
     def test_a_refused_call_takes_its_numbers_too(self):
         calls = [2, 1, 1, 3, 1, 1, 4, 1, 1, 1, 5, 1, 1, 6, 1, 1, 1, 65536, 1, 1]
         self.assertEqual(answers(calls), [3, -1, 0, 0] * 6 + [3, 0, 0, 0])
+
+    def test_what_is_asked_takes_its_own_numbers_and_no_more(self):
+        calls = [1, 5, 4, 0, 0, 3, 7, 1, 0, 7, 1, 7, 8, 1, 0, 0, 8, 1, 0, 12, 9, 1, 10, 1, 0, 11, 1, 2, 12, 1, 0,
+                 12, 1, 3, 0, 0, 0, 12, 1, 1, 12, 1, 5]
+        told = [0, 1, 15, 0, 3, 0, 0, 0, 0, 1, 1, 0, 2]
+        self.assertEqual(answers(calls), [number for one in told for number in (3, one, 0, 0)])
+
+    def test_what_is_asked_and_refused_takes_its_numbers_too(self):
+        calls = [7, 1, 1, 8, 1, 1, 1, 9, 1, 10, 1, 1, 11, 1, 1, 12, 1, 0, 12, 1, 2, 1, 1, 12, 1, 25] + [1] * 25 + [1, 5]
+        self.assertEqual(answers(calls), [3, -1, 0, 0] * 8 + [3, 0, 0, 0])
+        self.assertEqual(answers([1, 5, 1, 5, 10, 0, 1, 11, 0, 1])[8:], [3, -3, 0, 0] * 2)
 
     def test_it_gives_back_a_list_of_whole_numbers(self):
         told = answers(list(MIXED))

@@ -75,6 +75,11 @@ class Language(unittest.TestCase):
                 if isinstance(node, (ast.FunctionDef, ast.ClassDef)):
                     self.assertEqual(node.decorator_list, [], where)
 
+    def test_a_statement_by_itself_is_a_call(self):
+        for path, tree in self.trees():
+            alone = [node for node in ast.walk(tree) if isinstance(node, ast.Expr)]
+            self.assertEqual([node.lineno for node in alone if not isinstance(node.value, ast.Call)], [1], path)
+
     def test_only_the_allowed_names(self):
         for path, tree in self.trees():
             bound = bound_names(tree)
@@ -91,6 +96,23 @@ class Language(unittest.TestCase):
                 if isinstance(node, ast.ImportFrom):
                     self.assertEqual(node.level, 0, path)
                     self.assertRegex(node.module, r"^longestrundesk\.", path)
+
+    def test_a_name_is_drawn_from_the_file_that_defines_it(self):
+        trees = {path.stem: tree for path, tree in self.trees()}
+        for path, tree in self.trees():
+            for node in ast.walk(tree):
+                if isinstance(node, ast.ImportFrom):
+                    source = trees[node.module.split(".")[1]]
+                    defined = {one.name for one in source.body if isinstance(one, (ast.FunctionDef, ast.ClassDef))}
+                    self.assertLessEqual({one.name for one in node.names}, defined, path)
+
+    def test_no_two_files_draw_from_one_another(self):
+        left = {path.stem: {node.module.split(".")[1] for node in ast.walk(tree) if isinstance(node, ast.ImportFrom)}
+                for path, tree in self.trees()}
+        while left:
+            free = {name for name in left if not left[name] & set(left)}
+            self.assertTrue(free, left)
+            left = {name: left[name] for name in left if name not in free}
 
 
 if __name__ == "__main__":

@@ -3,7 +3,8 @@
 import unittest
 
 from asking import alt, ask, block, call, cost, init, last, loop, seq
-from longestrundesk.programs import Alt, Block, Call, Loop, Seq, answer_one
+from longestrundesk.kinds import Alt, Block, Call, Loop, Seq
+from longestrundesk.programs import answer_one
 
 
 class NumbersOfPrograms(unittest.TestCase):

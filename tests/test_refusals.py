@@ -2,7 +2,8 @@
 
 import unittest
 
-from asking import LONGEST, MOST, alt, ask, block, call, cost, last, loop, seq
+from asking import (LONGEST, MOST, alt, ask, asked, block, call, cost, is_run, last, loop, nth, often, seq, slack,
+                    stack, time)
 
 THREE = [block(1), block(2), seq(0, 1)]
 FULL = [block(1)] * 63 + [call(0, 1)]
@@ -58,6 +59,60 @@ class WhichGoesFirst(unittest.TestCase):
             self.assertEqual(last(*FULL, full), -2, full)
         for long in (seq(3, 0), seq(3, 3), loop(3, 0, 2), loop(3, 65535, 65535)):
             self.assertEqual(last(*LONGEST, long), -2, long)
+
+
+# Behind these 0 and 1 are blocks, 2 to 5 one of each other sort, and 5 has no run with block 1 in it.
+SIX = [block(1), block(2), seq(0, 0), alt(2, 0), loop(3, 0, 2), call(4, 3)]
+FAR = (6, 7, 63, 64, 2 ** 32, 2 ** 63, MOST - 5, MOST)
+
+
+class AskedOfNone(unittest.TestCase):
+    def test_where_there_are_no_programs(self):
+        self.assertEqual(
+            ask(time(0, 0), time(0, 1), often(0, 0, 0), often(0, 0, 1), stack(0), slack(0, 0), nth(0, 0),
+                is_run(0, [])),
+            [-1] * 8)
+
+    def test_a_program_that_there_is_not(self):
+        for far in FAR:
+            for wrong in (time(far, 0), time(far, 1), time(far, MOST), often(far, 0, 0), often(far, 1, 1),
+                          stack(far), slack(far, 0), slack(far, 1), nth(far, 0), nth(far, MOST),
+                          is_run(far, []), is_run(far, [0]), is_run(far, [0] * 24), is_run(far, [0] * 25)):
+                self.assertEqual(asked(SIX, wrong, block(1)), [-1, 6], wrong)
+
+    def test_a_block_that_there_is_not(self):
+        for far in FAR:
+            for wrong in (often(5, far, 0), often(5, far, 1), often(0, far, 0), slack(5, far), slack(far, far),
+                          often(far, far, 0)):
+                self.assertEqual(asked(SIX, wrong, block(1)), [-1, 6], wrong)
+
+    def test_a_program_that_is_no_block(self):
+        for number in (2, 3, 4, 5):
+            for wrong in (often(5, number, 0), often(5, number, 1), often(number, number, 0), slack(5, number),
+                          slack(0, number), slack(number, number)):
+                self.assertEqual(asked(SIX, wrong, block(1)), [-1, 6], wrong)
+
+    def test_programs_of_before_init_are_gone(self):
+        for wrong in (time(1), often(1, 0), often(0, 1), stack(1), slack(1, 0), slack(0, 1), nth(1, 0), is_run(1, [1])):
+            self.assertEqual(ask(block(1), block(2), [0], block(3), wrong), [0, 1, 0, 0, -1], wrong)
+
+    def test_a_program_that_was_refused_is_not_there(self):
+        for wrong in (time(4), often(4, 0), often(0, 4), stack(4), slack(4, 0), nth(4, 0), is_run(4, [])):
+            self.assertEqual(ask(*LONGEST, loop(3, 0, 2), wrong)[4:], [-2, -1], wrong)
+            self.assertEqual(ask(*LONGEST, block(65536), wrong)[4:], [-1, -1], wrong)
+
+
+class AskedOfNoBlock(unittest.TestCase):
+    def test_1_before_3(self):
+        self.assertEqual(asked(SIX, slack(5, 1), slack(6, 1), slack(5, 2), slack(5, MOST)), [-3, -1, -1, -1])
+        # No run of program 1 has anything of these, but they are no blocks either.
+        self.assertEqual(asked(SIX, slack(1, 0), slack(1, 2), slack(1, 5), slack(1, 6)), [-3, -1, -1, -1])
+        self.assertEqual(asked(SIX, nth(5, MOST), nth(6, MOST)), [-3, -1])
+
+    def test_too_long_a_row(self):
+        for row in ([0] * 25, [MOST] * 25, list(range(26)), [0] * 1000):
+            for a in (0, 5, 6, MOST):
+                self.assertEqual(asked(SIX, is_run(a, row), is_run(0, [0])), [-1, 1])
 
 
 class ChangesNothing(unittest.TestCase):
